@@ -1,0 +1,1 @@
+"""inkbook: pictures as bytes, drawn exactly."""
