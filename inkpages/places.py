@@ -1,4 +1,4 @@
-"""Paths of numbers: where they lead in a book, and the book with another list there."""
+"""Paths of numbers: where they lead in a book, and the book with other items there."""
 
 from inkpages.parts import Group
 
@@ -25,9 +25,12 @@ def find_item(book, path):
     return found[path[-1]]
 
 
-# The path leads to a list of the book. The book handed in stays as it is.
-def with_list(book, path, inner):
-    for end in range(len(path) - 1, 0, -1):
+# The book with other items at the path's end: some are taken from there on, and the new ones stand there.
+# The path leads to a place in a list of the book. The book handed in stays as it is.
+def spliced(book, path, taken, new):
+    found = find_list(book, path[:-1])
+    inner = found[:path[-1]] + new + found[path[-1] + taken:]
+    for end in range(len(path) - 2, 0, -1):
         around = list(find_list(book, path[:end]))
         group = around[path[end]]
         around[path[end]] = Group(group.odd, group.path, inner)

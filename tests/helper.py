@@ -30,6 +30,25 @@ def step(mark, *zs):
 LINE = contour(0, 0, step(3, 1)) + [0]
 
 
+def polygon(*points):
+    """The contour through these points, by straight lines that aren't 0 long; the last line is the closing one."""
+    steps = []
+    for (px, py), (qx, qy) in zip(points, points[1:]):
+        dx, dy = qx - px, qy - py
+        steps.append(step(2, dx, dy) if dx and dy else step(3, dx) if dx else step(4, dy))
+    return contour(*points[0], *steps)
+
+
+def box(x, y, w, h):
+    """A path: the rectangle in units, from (x, y) on to the right and down."""
+    return polygon((x, y), (x + w, y), (x + w, y + h), (x, y + h)) + [0]
+
+
+def cells(x, y, w=1, h=1):
+    """A path: the rectangle that has just these cells."""
+    return box(256 * x, 256 * y, 256 * w, 256 * h)
+
+
 def line_of(points):
     return [1, 0, 0] + [3, 2, 3, 1] * ((points - 1) // 2) + [3, 2] * ((points - 1) % 2) + [0]
 
@@ -42,8 +61,21 @@ def group(*inner, odd=0, path=LINE):
     return [2, odd] + list(path) + [byte for item in inner for byte in item] + [0]
 
 
+ONE = 2 ** 32
+SAME = (ONE, 0, 0, ONE, 0, 0)
+
+
 def use(symbol, *matrix):
-    return [3, symbol] + numbers(*(matrix or (2 ** 32, 0, 0, 2 ** 32, 0, 0)))
+    return [3, symbol] + numbers(*(matrix or SAME))
+
+
+def moved(symbol, dx, dy):
+    """A use that moves by so many units."""
+    return use(symbol, ONE, 0, 0, ONE, dx, dy)
+
+
+def view(symbol=0, matrix=SAME, window=(0, 0, 1, 1)):
+    return [symbol, *matrix, *window]
 
 
 def book(*symbols):
@@ -81,6 +113,38 @@ def item_bytes(*path):
 
 def put(path, data):
     return [8, len(path)] + list(path) + [len(data)] + data
+
+
+def take(*path):
+    return [9, len(path)] + list(path)
+
+
+def paint(path, r, g, b, a, mode):
+    return [10, r, g, b, a, mode, len(path)] + list(path)
+
+
+def draw(pixel_format, seen, pixels):
+    return [11, pixel_format, len(seen)] + seen + [len(pixels)] + pixels
+
+
+def layers(cx, cy, seen):
+    return [12, cx, cy, len(seen)] + seen
+
+
+def bounds(seen):
+    return [13, len(seen)] + seen
+
+
+def hit(sx, sy, seen):
+    return [14, sx, sy, len(seen)] + seen
+
+
+def watch(k, seen):
+    return [15, k, len(seen)] + seen
+
+
+def unwatch(k):
+    return [16, k]
 
 
 def run(*calls):

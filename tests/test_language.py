@@ -36,6 +36,9 @@ WORDS = re.compile(
     r"\b(type|typing|typing_extensions|enum|Enum|IntEnum|StrEnum|Flag|IntFlag|Generic|Protocol|ABC|ABCMeta|namedtuple"
     r"|NamedTuple|TypedDict|TYPE_CHECKING|abstractmethod)\b|dataclass|overload|contextmanager"
 )
+WALKED = {"zip", "enumerate", "reversed", "range", "items", "keys", "values"}
+WALKERS = {"list", "tuple", "dict", "sorted", "sum", "any", "all", "enumerate", "zip", "min", "max", "join"}
+PLAIN = (ast.Constant, ast.UnaryOp, ast.USub, ast.Tuple, ast.List, ast.Dict, ast.Name, ast.Load)
 DUNDERS = {"__init__", "__eq__", "__repr__", "__str__", "__len__"}
 
 
@@ -45,6 +48,10 @@ def trees():
 
 def nodes(tree, *kinds):
     return [node for node in ast.walk(tree) if isinstance(node, kinds)]
+
+
+def called_name(node):
+    return node.func.id if isinstance(node.func, ast.Name) else getattr(node.func, "attr", None)
 
 
 def bound_names(function):
@@ -118,6 +125,40 @@ class TestForms(unittest.TestCase):
             for node in nodes(tree, ast.ClassDef):
                 self.assertTrue(len(node.bases) <= 1 and not node.decorator_list, (file, node.lineno))
                 self.assertTrue(all(isinstance(part, ast.FunctionDef) for part in node.body), (file, node.lineno))
+
+    def test_the_top_of_a_module(self):
+        for file, tree in trees():
+            functions = {node.name for node in tree.body if isinstance(node, ast.FunctionDef)}
+            for node in [node for node in tree.body if isinstance(node, ast.Assign)]:
+                for part in ast.walk(node.value):
+                    self.assertIsInstance(part, PLAIN, (file, node.lineno))
+                    self.assertTrue(not isinstance(part, ast.Name) or part.id in functions, (file, node.lineno))
+                inner = [part for part in nodes(node.value, ast.List, ast.Dict) if part is not node.value]
+                self.assertEqual(inner, [], (file, node.lineno))
+
+    def test_no_power(self):
+        for file, tree in trees():
+            for node in nodes(tree, ast.Pow):
+                self.fail(file)
+
+    def test_walked_on_the_spot(self):
+        for file, tree in trees():
+            spots = [node.iter for node in nodes(tree, ast.For, ast.comprehension)]
+            spots += [node.args[0] for node in nodes(tree, ast.Call) if called_name(node) in WALKERS and node.args]
+            for node in nodes(tree, ast.Call):
+                if called_name(node) in WALKED:
+                    self.assertIn(node, spots, (file, node.lineno))
+
+    def test_what_a_loop_walks_is_not_changed_in_it(self):
+        changes = {"append", "clear", "extend", "insert", "pop", "remove", "reverse", "setdefault", "update"}
+        for file, tree in trees():
+            for loop in nodes(tree, ast.For):
+                walked = {node.id for node in nodes(loop.iter, ast.Name)}
+                for node in nodes(loop, ast.Call):
+                    if isinstance(node.func, ast.Attribute) and node.func.attr in changes:
+                        owner = node.func.value
+                        changed = isinstance(owner, ast.Name) and owner.id in walked
+                        self.assertFalse(changed, (file, node.lineno))
 
     def test_is_stands_beside_none_alone(self):
         for file, tree in trees():

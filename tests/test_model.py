@@ -21,8 +21,11 @@ class Node:
         self.begin = begin
         self.children = []
         self.seen = None
-        self.points = 0
+        self.contours = []
         self.used = None
+
+    def points(self):
+        return sum(len(points) for contour in self.contours for points in contour)
 
 
 class Parser:
@@ -53,15 +56,16 @@ class Parser:
         return z
 
     def path(self):
-        points = 0
+        """A list of contours; a contour is a list of the points of its beginning and of each step."""
+        contours = []
         coordinates = range(-4194304, 4194304)
         mark = self.byte([1])
         while mark:
-            moves = {1: 1, 2: 1, 3: 1, 4: 1, 5: 2, 6: 3}[mark]
-            points += moves
             if mark == 1:
                 at = [0, 0]
-            for _ in range(moves):
+                contours.append([])
+            contours[-1].append([])
+            for _ in range({5: 2, 6: 3}.get(mark, 1)):
                 for axis in (0, 1):
                     if mark in STRAIGHT and not STRAIGHT[mark][axis]:
                         continue
@@ -71,19 +75,20 @@ class Parser:
                         raise Wrong(begin)
                     at[axis] += d
                     assert at[axis] in coordinates
+                contours[-1][-1].append(tuple(at))
             mark = self.byte(range(2, 7) if mark == 1 else range(7))
-        return points
+        return contours
 
     def item(self, kind, symbol):
         node = Node(self.at - 1)
         if kind == 1:
             second = self.byte(range(8))
             paint = [self.byte(range(256)) for _ in range(4)]
-            node.points = self.path()
+            node.contours = self.path()
             node.seen = (1, [second & 1, second >> 1] + paint, [])
         elif kind == 2:
             odd = self.byte(range(2))
-            node.points = self.path()
+            node.contours = self.path()
             node.children = self.items(symbol)
             node.seen = (2, [odd, len(node.children)], [])
         else:
@@ -135,7 +140,7 @@ def unfold(node, roots):
     return (
         1 + max([part[0] for part in parts], default=0),
         own + sum(part[1] for part in parts),
-        node.points + sum(part[2] for part in parts),
+        node.points() + sum(part[2] for part in parts),
     )
 
 

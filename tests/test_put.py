@@ -11,7 +11,8 @@ FAR = 18446744073709551615
 A = shape(paint=(1, 0, 0, 0))
 B = shape(paint=(2, 0, 0, 0))
 C = use(0, 1, 2, 3, 4, 5, 6)
-NEW = shape(1, 3, (9, 9, 9, 9), contour(5, 5, step(5, 1, 2, 3, 4), step(6, 1, 2, 3, 4, 5, 6)) + contour(1, 1, step(4, 2)) + [0])
+CURVES = contour(5, 5, step(5, 1, 2, 3, 4), step(6, 1, 2, 3, 4, 5, 6))
+NEW = shape(1, 3, (9, 9, 9, 9), CURVES + contour(1, 1, step(4, 2)) + [0])
 TOO_MANY = [0] * 4097
 
 
@@ -39,7 +40,8 @@ class TestWhere(unittest.TestCase):
         self.check_put(around(A), [1, 1, 3], NEW, [[B], [A, group(A, group(A, odd=1), B, NEW), C], [group(B)]])
 
     def test_each_kind_of_item(self):
-        for item in (NEW, C, use(0, -2 ** 63, 2 ** 63 - 1, 0, 0, -2 ** 31, 2 ** 31 - 1), group(odd=1), group(A, group(C))):
+        far = use(0, -2 ** 63, 2 ** 63 - 1, 0, 0, -2 ** 31, 2 ** 31 - 1)
+        for item in (NEW, C, far, group(odd=1), group(A, group(C))):
             self.check_put([[A], [B]], [1, 0], item, [[A], [item, B]])
 
     def test_at_the_deepest_place(self):

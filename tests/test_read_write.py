@@ -7,7 +7,9 @@ from tests.helper import (
 )
 
 PATH = (
-    contour(-300, 70000, step(2, 5, -6), step(3, -700), step(4, 80000), step(5, 1, 2, -3, 0), step(6, 9, 0, 0, 8, 7, -7))
+    contour(
+        -300, 70000, step(2, 5, -6), step(3, -700), step(4, 80000), step(5, 1, 2, -3, 0), step(6, 9, 0, 0, 8, 7, -7),
+    )
     + contour(4194303, -4194304, step(5, 0, 0, 0, 0))
     + [0]
 )
