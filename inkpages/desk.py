@@ -116,12 +116,12 @@ def call_paint(desk, given):
     paint = tuple(given[:4])
     mode = given[4]
     path = given[5]
-    item = find_item(desk.book, path)
-    # Of both, that there's no shape is what the document tells first.
-    if not isinstance(item, Shape):
-        return (0, [], [])
+    # Only what is below 0 refuses: so -1 counts wherever it holds, though 0 is told before it.
     if mode > GREATEST_MODE or max(paint) > GREATEST_PAINT:
         return (-1, [], [])
+    item = find_item(desk.book, path)
+    if not isinstance(item, Shape):
+        return (0, [], [])
     painted = Shape(item.odd, mode, paint, item.path)
     return (1, change_book(desk, spliced(desk.book, path, 1, [painted])), [])
 

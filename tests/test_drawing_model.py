@@ -178,11 +178,11 @@ class DrawingModel(Model):
 
     def paint(self, path, r, g, b, a, mode):
         before = self.data
+        if mode > 3 or r > 255 or g > 255 or b > 255 or a > 255:
+            return (-1, [], [])
         node = self.find(path)
         if not node or not node.seen or node.seen[0] != 1:
             return (0, [], [])
-        if mode > 3 or r > 255 or g > 255 or b > 255 or a > 255:
-            return (-1, [], [])
         second = [node.seen[1][0] + 2 * mode, r, g, b, a]
         self.data = before[:node.begin + 1] + second + before[node.begin + 6:]
         return (1, self.told(before), [])

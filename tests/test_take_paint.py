@@ -18,6 +18,7 @@ NOWHERE = (
     [0, 1, 0], [0, 0, 0], [1, 0, 0], [1, 2, 0], [1, 1, 0, 0], [1, 1, 1, 1, 0], [1, 1, 1, 2, 1], [1, 1, 1, 2, 0, 0],
     [0] * 17, [0] * 18, [1] * 18, [1] * 64, [FAR] * 64,
 )
+NO_SHAPE = NOWHERE + ([0, 1], [1, 1], [1, 1, 1], [1, 1, 1, 2], [1, 0], [1, 1, 1, 1])
 
 
 class TestTake(unittest.TestCase):
@@ -120,8 +121,9 @@ class TestPaint(Paints):
         self.assertEqual(told[1:], [OK, OK, (0, [], book(*deep))])
 
     def test_what_is_no_shape(self):
-        for path in NOWHERE + ([0, 1], [1, 1], [1, 1, 1], [1, 1, 1, 2], [1, 0], [1, 1, 1, 1]):
-            self.check_unchanged(path, (10, 20, 30, 40, 1), OK)
+        for new in ((10, 20, 30, 40, 1), (0, 0, 0, 0, 0), (255, 255, 255, 255, 3)):
+            for path in NO_SHAPE:
+                self.check_unchanged(path, new, OK)
 
     def test_in_the_empty_book_and_in_an_added_symbol(self):
         painted = paint([0, 0], 1, 2, 3, 4, 1)
@@ -140,10 +142,16 @@ class TestRefused(Paints):
             for path in ([0, 0], [1, 2], [1, 1, 0], [1, 1, 1, 2, 0]):
                 self.check_unchanged(path, new, REFUSED)
 
-    def test_no_shape_is_told_first(self):
+    def test_where_the_path_leads_to_no_shape(self):
         for new in self.too_large:
-            for path in NOWHERE + ([0, 1], [1, 1], [1, 0]):
-                self.check_unchanged(path, new, OK)
+            for path in NO_SHAPE:
+                self.check_unchanged(path, new, REFUSED)
+
+    def test_in_the_empty_book_and_in_an_added_symbol(self):
+        for new in self.too_large:
+            calls = [paint(path, *new) for path in ([], [0], [0, 0], [FAR] * 64)]
+            told = run(*calls, ADD, *calls, WRITE)
+            self.assertEqual(told, [REFUSED] * 4 + [OK] + [REFUSED] * 4 + [(0, [], book([]))], new)
 
 
 if __name__ == "__main__":

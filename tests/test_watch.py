@@ -232,10 +232,10 @@ class TestNothingTold(unittest.TestCase):
         answers = run(
             read(data), watch(0, WHOLE), put([0, 9], at(1, 1)), put([0, 0], [9]), put([0, 0], nested(17)), read([0]),
             read(book([nested(17)])), read([0] * 4097), take(0, 9), take(0), paint([0, 0], 256, 0, 0, 0, 0),
-            paint([0, 0], 0, 0, 0, 0, 4), paint([0, 1], 0, 0, 0, 0, 0), WRITE,
+            paint([0, 0], 0, 0, 0, 0, 4), paint([0, 1], 0, 0, 0, 0, 0), paint([0, 1], 0, 0, 0, 0, 4), WRITE,
         )
         first, past = (-2, [0], []), (-3, [], [])
-        told = [REFUSED, first, past, first, past, REFUSED, OK, OK, REFUSED, REFUSED, OK]
+        told = [REFUSED, first, past, first, past, REFUSED, OK, OK, REFUSED, REFUSED, OK, REFUSED]
         self.assertEqual(answers[2:], told + [(0, [], data)])
 
     def test_nothing_is_watched(self):
